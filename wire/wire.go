@@ -69,18 +69,7 @@ func Ints(l []int) []byte {
 }
 
 // GetInts decodes a list of integers at the beginning of a byte sequence.
-func GetInts(b []byte) ([]int, int, api.Errno) {
-	var l []int
-	used, e := getElements(b, 1, func(rest []byte) (int, api.Errno) {
-		n, used, e := GetInt(rest)
-		l = append(l, n)
-		return used, e
-	})
-	if e != api.OK {
-		return nil, 0, e
-	}
-	return l, used, api.OK
-}
+func GetInts(b []byte) ([]int, int, api.Errno) { return getList(b, 1, GetInt) }
 
 // Strings returns the encoding of a list of byte strings.
 func Strings(l []string) []byte {
@@ -92,18 +81,7 @@ func Strings(l []string) []byte {
 }
 
 // GetStrings decodes a list of byte strings at the beginning of a byte sequence.
-func GetStrings(b []byte) ([]string, int, api.Errno) {
-	var l []string
-	used, e := getElements(b, 1, func(rest []byte) (int, api.Errno) {
-		s, used, e := GetBytes(rest)
-		l = append(l, s)
-		return used, e
-	})
-	if e != api.OK {
-		return nil, 0, e
-	}
-	return l, used, api.OK
-}
+func GetStrings(b []byte) ([]string, int, api.Errno) { return getList(b, 1, GetBytes) }
 
 // Digests returns the encoding of a list of digests.
 func Digests(l []api.Digest) []byte {
@@ -116,15 +94,7 @@ func Digests(l []api.Digest) []byte {
 
 // GetDigests decodes a list of digests at the beginning of a byte sequence.
 func GetDigests(b []byte) ([]api.Digest, int, api.Errno) {
-	var l []api.Digest
-	used, e := getElements(b, api.DigestSize, func(rest []byte) (int, api.Errno) {
-		l = append(l, api.Digest(rest[:api.DigestSize]))
-		return api.DigestSize, api.OK
-	})
-	if e != api.OK {
-		return nil, 0, e
-	}
-	return l, used, api.OK
+	return getList(b, api.DigestSize, getDigest)
 }
 
 // appendInt appends the encoding of n to b. The encoding of a negative n is
@@ -174,20 +144,30 @@ func getLength(b []byte, least int) (int, int, api.Errno) {
 	return n, used, api.OK
 }
 
-// getElements decodes a number of elements of at least least bytes each, and
-// has each of them taken by take, which is given the bytes that are left and
-// returns how many of them it used. It returns the number of bytes used.
-func getElements(b []byte, least int, take func(rest []byte) (int, api.Errno)) (int, api.Errno) {
+// getDigest takes a digest from the beginning of b, which has enough bytes
+// because getList has counted them.
+func getDigest(b []byte) (api.Digest, int, api.Errno) {
+	return api.Digest(b[:api.DigestSize]), api.DigestSize, api.OK
+}
+
+// getList decodes a list whose elements have at least least bytes each, and
+// are decoded by get. The list grows with what is decoded, so that a length
+// alone costs no memory.
+func getList[T any](b []byte, least int, get func([]byte) (T, int, api.Errno)) ([]T, int, api.Errno) {
 	n, used, e := getLength(b, least)
 	if e != api.OK {
-		return 0, e
+		return nil, 0, e
+	}
+	var l []T
+	next := func() api.Errno {
+		x, more, e := get(b[used:])
+		l, used = append(l, x), used+more
+		return e
 	}
 	for range n {
-		more, e := take(b[used:])
-		if e != api.OK {
-			return 0, e
+		if e := next(); e != api.OK {
+			return nil, 0, e
 		}
-		used += more
 	}
-	return used, api.OK
+	return l, used, api.OK
 }
